@@ -17,6 +17,8 @@ const lineEnd = 10
 
 func isNumber(n int) bool { return n >= 0 && n <= MaxNum }
 
+func isTime(n int) bool { return n >= 0 && n <= MaxTime }
+
 // AddSat compares ahead of adding, since a sum that has passed an end has wrapped round and can't be told any more.
 func AddSat(a int, b int) int {
 	if b > 0 && a > MaxInt-b {
