@@ -972,35 +972,29 @@ func ledgerCalls() map[string]func(impl.Ledger) impl.Ledger {
 	return calls
 }
 
-// checkOwnSlots asks that a call neither changes the ledger l, whose slots stand at the front of under, nor shares them.
-func checkOwnSlots(t *testing.T, name string, l impl.Ledger, under []impl.Slot, call func(impl.Ledger) impl.Ledger) {
+// checkOwnList asks that a call neither changes the list that it is given, which stands at the front of under, nor shares it. Junk is written over all that its answers reach.
+func checkOwnList[T comparable](t *testing.T, name string, under []T, junk T, call func() []T) {
 	t.Helper()
-	before, whole := copyLedger(l), slices.Clone(under)
-	unchanged := func() bool { return sameLedger(l, before) && slices.Equal(under, whole) }
-	answer := call(l)
-	impl.LedgerOk(l)
-	impl.Flying(l)
-	impl.FlyingOf(l, 1)
-	impl.PermitOf(l, 7)
-	again := call(l)
-	kept := copyLedger(again)
-	if !unchanged() {
+	whole := slices.Clone(under)
+	answer, again := call(), call()
+	kept := slices.Clone(again)
+	if !slices.Equal(under, whole) {
 		t.Errorf("%s: changed its argument", name)
 	}
-	if !sameLedger(answer, again) {
+	if !slices.Equal(answer, again) {
 		t.Errorf("%s: a second call answers %+v, the first %+v", name, again, answer)
 	}
-	room := answer.Slots[:cap(answer.Slots)]
+	room := answer[:cap(answer)]
 	for i := range room {
-		room[i] = usedSlot(77, 77, 77, 77)
+		room[i] = junk
 	}
-	if !unchanged() || !sameLedger(again, kept) {
+	if !slices.Equal(under, whole) || !slices.Equal(again, kept) {
 		t.Errorf("%s: a write into its answer shows elsewhere", name)
 	}
 	for i := range under {
-		under[i] = usedSlot(66, 66, 66, 66)
+		under[i] = junk
 	}
-	if !sameLedger(again, kept) {
+	if !slices.Equal(again, kept) {
 		t.Errorf("%s: its answer changes with the argument", name)
 	}
 }
@@ -1016,7 +1010,14 @@ func TestLedgersShareNoMemory(t *testing.T) {
 		for what, call := range ledgerCalls() {
 			// room behind the slots, into which an append would write
 			under := append(slices.Clone(g.Slots), freeSlot(5), usedSlot(6, 6, 6, 6), freeSlot(7))
-			checkOwnSlots(t, name+": "+what, impl.Ledger{Slots: under[:len(g.Slots)]}, under, call)
+			l := impl.Ledger{Slots: under[:len(g.Slots)]}
+			checkOwnList(t, name+": "+what, under, usedSlot(77, 77, 77, 77), func() []impl.Slot {
+				impl.LedgerOk(l)
+				impl.Flying(l)
+				impl.FlyingOf(l, 1)
+				impl.PermitOf(l, 7)
+				return call(l).Slots
+			})
 		}
 	}
 }
