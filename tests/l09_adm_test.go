@@ -1441,22 +1441,20 @@ func wholeLists(a impl.Adm) []any {
 	}
 }
 
+// withEmptyLists is a copy of a machine with a list without elements wherever it has none.
+func withEmptyLists(a impl.Adm) impl.Adm {
+	a.Lim.Win.Items = append([]impl.Sample{}, a.Lim.Win.Items...)
+	a.Led.Slots = append([]impl.Slot{}, a.Led.Slots...)
+	a.Q.Reqs = append([]impl.Req{}, a.Q.Reqs...)
+	a.Slow = append([]impl.Codel{}, a.Slow...)
+	a.Known = append([]int{}, a.Known...)
+	return a
+}
+
 // Chapter 1: a list without elements and nil are the same.
 func TestEmptyListsOfMachines(t *testing.T) {
 	for name, a := range rightAdms() {
-		emptied := copyAdm(a)
-		if len(a.Lim.Win.Items) == 0 {
-			emptied.Lim.Win.Items = []impl.Sample{}
-		}
-		if len(a.Led.Slots) == 0 {
-			emptied.Led.Slots = []impl.Slot{}
-		}
-		if len(a.Q.Reqs) == 0 {
-			emptied.Q.Reqs = []impl.Req{}
-		}
-		if len(a.Known) == 0 {
-			emptied.Known = []int{}
-		}
+		emptied := withEmptyLists(a)
 		if !impl.AdmOk(emptied) || impl.Room(emptied) != impl.Room(a) || impl.Knows(emptied, 0) {
 			t.Errorf("%s: with empty lists for nil it answers something else", name)
 		}
